@@ -22,6 +22,12 @@ LAST_DAY = 10000
 MEAN_OF = 5
 LOOKED_AT = 10
 MOST_ABOVE_PEAK = 1
+MOST_TRIED = 10
+
+NOT_WITHIN_GOOD = 1
+ABOVE_PEAK = 2
+NOT_WITHIN_FAIR = 4
+SHUT_BY_RAIN = 8
 
 BEGIN = 0
 
@@ -52,6 +58,11 @@ def is_reading(x):
     return 1 <= x <= GREATEST_READING
 
 
+def is_open_class(c):
+    """The classes that may be open are also those that may be asked for."""
+    return 1 <= c <= 2
+
+
 def has_mean(readings):
     return len(readings) >= MEAN_OF
 
@@ -63,17 +74,22 @@ def product_of(readings):
     return product
 
 
-def fifth_root(product):
-    """The greatest whole number whose fifth power is no more than the product of five readings."""
-    root = 1
+def greatest_that(holds):
+    """The greatest of 1 to 1,000 for which it holds, or 0; where it holds for one, it must for all that are less."""
+    found = 0
     beyond = GREATEST_READING + 1
-    while beyond - root > 1:
-        middle = (root + beyond) // 2
-        if middle ** 5 <= product:
-            root = middle
+    while beyond - found > 1:
+        middle = (found + beyond) // 2
+        if holds(middle):
+            found = middle
         else:
             beyond = middle
-    return root
+    return found
+
+
+def mean_of(readings):
+    product = product_of(readings)
+    return greatest_that(lambda m: m ** 5 <= product)
 
 
 def is_within(readings, m):
@@ -85,18 +101,27 @@ def count_above(readings, m):
     return len([reading for reading in readings[-LOOKED_AT:] if reading > m])
 
 
+def is_above_peak(waters, readings):
+    return count_above(readings, waters.peak) > MOST_ABOVE_PEAK
+
+
 def class_of(waters, readings):
     if not has_mean(readings):
         return 0
-    if is_within(readings, waters.good) and count_above(readings, waters.peak) <= MOST_ABOVE_PEAK:
+    if is_within(readings, waters.good) and not is_above_peak(waters, readings):
         return 1
     if is_within(readings, waters.fair):
         return 2
     return 3
 
 
+def is_of_class(waters, readings, c):
+    """Whether these readings make an area of class c or better."""
+    return 1 <= class_of(waters, readings) <= c
+
+
 def may_open(waters, area):
-    return class_of(waters, area.readings) in (1, 2)
+    return is_open_class(class_of(waters, area.readings))
 
 
 def is_shut(waters, area):
@@ -113,6 +138,12 @@ def open_areas(waters):
 
 def shut_areas(waters):
     return [i for i, area in enumerate(waters.areas) if is_shut(waters, area)]
+
+
+def measured_areas(waters):
+    """The areas that have a mean, the better ones first."""
+    measured = [i for i, area in enumerate(waters.areas) if has_mean(area.readings)]
+    return sorted(measured, key=lambda i: (product_of(waters.areas[i].readings), i))
 
 
 def are_bounds(good, fair, peak):
@@ -209,8 +240,7 @@ def answer_mean(waters, arguments):
     readings = waters.areas[arguments[0]].readings
     if not has_mean(readings):
         return [TOO_FEW]
-    product = product_of(readings)
-    return [fifth_root(product), product]
+    return [mean_of(readings), product_of(readings)]
 
 
 def answer_evenly(waters, arguments):
@@ -221,12 +251,98 @@ def answer_evenly(waters, arguments):
     return [total // MEAN_OF, total]
 
 
-def not_written(waters, arguments):
-    raise NotImplementedError("this call is not written yet")
+def answer_greatest(waters, arguments):
+    readings = waters.areas[arguments[0]].readings
+    c = arguments[1]
+    if not is_open_class(c):
+        return [OUT_OF_RANGE]
+    found = greatest_that(lambda x: is_of_class(waters, readings + [x], c))
+    return [found if found > 0 else NEVER]
+
+
+def answer_would(waters, arguments):
+    readings = waters.areas[arguments[0]].readings
+    x = arguments[1]
+    if not is_reading(x):
+        return [OUT_OF_RANGE]
+    return [class_of(waters, readings + [x])]
+
+
+def answer_fewest(waters, arguments, wanted):
+    """With how many readings of x, at the fewest, it's so or not so, as wanted, that it's of class c or better."""
+    readings = waters.areas[arguments[0]].readings
+    x = arguments[1]
+    c = arguments[2]
+    if not is_reading(x) or not is_open_class(c):
+        return [OUT_OF_RANGE]
+    for count in range(MOST_TRIED + 1):
+        if is_of_class(waters, readings + [x] * count, c) == wanted:
+            return [count]
+    return [NEVER]
+
+
+def answer_needs(waters, arguments):
+    return answer_fewest(waters, arguments, True)
+
+
+def answer_lasts(waters, arguments):
+    return answer_fewest(waters, arguments, False)
+
+
+def answer_above(waters, arguments):
+    readings = waters.areas[arguments[0]].readings
+    m = arguments[1]
+    if not is_reading(m):
+        return [OUT_OF_RANGE]
+    return [count_above(readings, m), len(readings[-LOOKED_AT:])]
+
+
+def answer_worse(waters, arguments):
+    first = waters.areas[arguments[0]].readings
+    other = waters.areas[arguments[1]].readings
+    if not has_mean(first) or not has_mean(other):
+        return [TOO_FEW]
+    if product_of(first) > product_of(other):
+        return [1]
+    return [2 if product_of(other) > product_of(first) else 0]
+
+
+def answer_best(waters, arguments):
+    measured = measured_areas(waters)
+    if len(measured) == 0:
+        return [TOO_FEW]
+    return [measured[0], mean_of(waters.areas[measured[0]].readings)]
+
+
+def answer_order(waters, arguments):
+    behind = [i for i, area in enumerate(waters.areas) if not has_mean(area.readings)]
+    return [len(waters.areas)] + measured_areas(waters) + behind
+
+
+def answer_why(waters, arguments):
+    area = waters.areas[arguments[0]]
+    why = SHUT_BY_RAIN if is_shut(waters, area) else 0
+    if not has_mean(area.readings):
+        return [why]
+    if not is_within(area.readings, waters.good):
+        why = why + NOT_WITHIN_GOOD
+    if is_above_peak(waters, area.readings):
+        why = why + ABOVE_PEAK
+    if not is_within(area.readings, waters.fair):
+        why = why + NOT_WITHIN_FAIR
+    return [why]
+
+
+def answer_reads(waters, arguments):
+    shown = list(reversed(waters.areas[arguments[0]].readings[-LOOKED_AT:]))
+    return [len(shown)] + shown
+
+
+def answer_state(waters, arguments):
+    return [0, waters.day, waters.good, waters.fair, waters.peak, waters.rain, waters.days, len(waters.areas)]
 
 
 # By the call's number: what answers it, how many numbers it takes, and how many of these, the first ones, are areas.
-# The calls that are not written yet stand here too, so that their refusals -11 and -2 hold already.
 CALLS = (
     (answer_begin, 5, 0),
     (answer_area, 0, 0),
@@ -240,17 +356,17 @@ CALLS = (
     (answer_opens, 1, 1),
     (answer_mean, 1, 1),
     (answer_evenly, 1, 1),
-    (not_written, 2, 1),
-    (not_written, 2, 1),
-    (not_written, 3, 1),
-    (not_written, 3, 1),
-    (not_written, 2, 1),
-    (not_written, 2, 2),
-    (not_written, 0, 0),
-    (not_written, 0, 0),
-    (not_written, 1, 1),
-    (not_written, 1, 1),
-    (not_written, 0, 0),
+    (answer_greatest, 2, 1),
+    (answer_would, 2, 1),
+    (answer_needs, 3, 1),
+    (answer_lasts, 3, 1),
+    (answer_above, 2, 1),
+    (answer_worse, 2, 2),
+    (answer_best, 0, 0),
+    (answer_order, 0, 0),
+    (answer_why, 1, 1),
+    (answer_reads, 1, 1),
+    (answer_state, 0, 0),
 )
 
 

@@ -57,29 +57,79 @@ def evenly(i):
     return [11, i]
 
 
-def reads(i, readings):
+def greatest(i, c):
+    return [12, i, c]
+
+
+def would(i, x):
+    return [13, i, x]
+
+
+def needs(i, x, c):
+    return [14, i, x, c]
+
+
+def lasts(i, x, c):
+    return [15, i, x, c]
+
+
+def above(i, m):
+    return [16, i, m]
+
+
+def worse(i, j):
+    return [17, i, j]
+
+
+def best():
+    return [18]
+
+
+def order():
+    return [19]
+
+
+def why(i):
+    return [20, i]
+
+
+def reads(i):
+    return [21, i]
+
+
+def state():
+    return [22]
+
+
+def read_all(i, readings):
     return [read(i, x) for x in readings]
 
 
 def looks():
-    """Every call of these that only looks, at every area there may be and at one more."""
-    calls = [open_(), shut()]
-    for i in range(7):
-        calls += [class_(i), opens(i), mean(i), evenly(i)]
+    """Every call that only looks, at areas that are there and at some that may not be."""
+    calls = [open_(), shut(), best(), order(), state()]
+    for i in (0, 1, 2, 5, 6):
+        calls += [class_(i), opens(i), mean(i), evenly(i), why(i), reads(i)]
+    for i in range(2):
+        calls += [greatest(i, 1), greatest(i, 2), would(i, 12), needs(i, 9, 1), lasts(i, 51, 2), above(i, 10)]
+        calls += [worse(i, 1 - i)]
     return calls
 
 
 def takes_apart():
-    """Calls that bring to light what looking alone doesn't: readings, the day, the bounds, how many areas."""
+    """Calls that bring to light what looking alone doesn't: older readings, the days shut, what rain is let."""
     calls = looks()
     for i in range(2):
-        calls += [back(i)] * 12 + reads(i, (11, 51, 10, 9, 12)) + [read(i, 51)]
+        calls += [back(i)] * 12 + read_all(i, (11, 51, 10, 9, 12)) + [read(i, 51)]
     return calls + [rainfall(25), rainfall(26), area(), area(), shut(), days(3)] + looks()
 
 
 def ask(calls):
     """The answers, one list a call, without the counts, which are checked on the way."""
-    told = answers([number for call in calls for number in call])
+    handed = [number for call in calls for number in call]
+    if len(calls) > 256 or len(handed) > 1536:
+        raise AssertionError(f"such a list is never handed in: {len(calls)} calls")
+    told = answers(handed)
     if type(told) is not list or [x for x in told if type(x) is not int]:
         raise AssertionError(f"not a list of whole numbers: {told!r}")
     parted = []

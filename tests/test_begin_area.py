@@ -1,5 +1,5 @@
 from tests.helper import (
-    ARGUMENTS, TOP, Case, area, begin, class_, days, evenly, last, mean, open_, opens, rainfall, read, reads, shut,
+    ARGUMENTS, TOP, Case, area, begin, class_, days, evenly, last, mean, open_, opens, rainfall, read, read_all, shut,
 )
 
 
@@ -32,17 +32,17 @@ class Begin(Case):
     def test_each_bound_is_kept_in_its_place(self):
         told = begin(good=3, fair=5, peak=7, rain=11, days=13)
         calls = [told, area()]
-        self.answers_last(calls + reads(0, (3, 3, 3, 3, 3)), [1, 0])
-        self.answers_last(calls + reads(0, (3, 3, 3, 3, 4)), [2, 0])
-        self.answers_last(calls + reads(0, (5, 5, 5, 5, 5)), [2, 0])
-        self.answers_last(calls + reads(0, (5, 5, 5, 5, 6)), [3, 0])
-        self.answers_last(calls + reads(0, (7, 7, 1, 1, 1)), [1, 0])
-        self.answers_last(calls + reads(0, (8, 8, 1, 1, 1)), [2, 0])
+        self.answers_last(calls + read_all(0, (3, 3, 3, 3, 3)), [1, 0])
+        self.answers_last(calls + read_all(0, (3, 3, 3, 3, 4)), [2, 0])
+        self.answers_last(calls + read_all(0, (5, 5, 5, 5, 5)), [2, 0])
+        self.answers_last(calls + read_all(0, (5, 5, 5, 5, 6)), [3, 0])
+        self.answers_last(calls + read_all(0, (7, 7, 1, 1, 1)), [1, 0])
+        self.answers_last(calls + read_all(0, (8, 8, 1, 1, 1)), [2, 0])
         self.answers_last(calls + [rainfall(11)], [0])
         self.answers_last(calls + [rainfall(12)], [13])
 
     def test_once_more_in_the_middle(self):
-        calls = [begin(), area(), area()] + reads(0, (1, 1, 1, 1, 1)) + [days(7), rainfall(30)]
+        calls = [begin(), area(), area()] + read_all(0, (1, 1, 1, 1, 1)) + [days(7), rainfall(30)]
         calls += [begin(good=2, fair=2, peak=50, rain=0, days=9)]
         self.answers_last(calls, [0])
         self.answers_end(calls + [class_(0), open_(), shut(), area()], [[-2], [0], [0], [0]])
@@ -50,10 +50,10 @@ class Begin(Case):
         self.answers_end(calls + [area(), class_(0), mean(0), shut()], [[0], [0, 0], [-6], [0]])
         self.answers_end(calls + [area(), rainfall(1), shut(), days(8), shut(), days(1), shut()],
                          [[9], [1, 0], [8, 0], [1, 0], [9, 0], [0]])
-        self.answers_last(calls + [area()] + reads(0, (2, 2, 2, 2, 3)), [3, 0])
+        self.answers_last(calls + [area()] + read_all(0, (2, 2, 2, 2, 3)), [3, 0])
 
     def test_refused_behind_one_that_answered_0(self):
-        calls = [begin(), area(), area()] + reads(0, (1, 2, 3, 4, 5)) + [days(7), rainfall(30), days(1)]
+        calls = [begin(), area(), area()] + read_all(0, (1, 2, 3, 4, 5)) + [days(7), rainfall(30), days(1)]
         for wrong in (begin(good=0), begin(fair=9), begin(fair=1001), begin(peak=0), begin(rain=1001), begin(days=61),
                       begin(good=900, fair=950, peak=1, rain=0, days=TOP), begin(TOP, TOP, TOP, TOP, TOP)):
             with self.subTest(wrong=wrong):
@@ -99,7 +99,7 @@ class NoSuchArea(Case):
             self.answers_last([begin(), area(), area(), [17, 1, j]], [-2])
 
     def test_changes_nothing(self):
-        calls = [begin(), area(), area()] + reads(1, (1, 2, 3, 4, 5))
+        calls = [begin(), area(), area()] + read_all(1, (1, 2, 3, 4, 5))
         wrong = [read(2, 5), [3, 2], class_(2), opens(TOP), mean(2), evenly(6)]
         self.changes_nothing(calls, wrong, [[-2]] * 6)
 
@@ -118,7 +118,7 @@ class AreaCall(Case):
         self.answers_end(calls + [shut(), class_(1), [3, 1]], [[1, 0], [0, 0], [-6]])
 
     def test_areas_keep_readings_of_their_own(self):
-        calls = [begin(), area(), area()] + reads(0, (1, 1, 1, 1, 1)) + reads(1, (2, 2, 2, 2))
+        calls = [begin(), area(), area()] + read_all(0, (1, 1, 1, 1, 1)) + read_all(1, (2, 2, 2, 2))
         self.assertEqual(last(calls + [mean(0)]), [1, 1])
         self.assertEqual(last(calls + [mean(1)]), [-6])
         self.assertEqual(last(calls + [read(1, 2), mean(1)]), [2, 32])

@@ -1,23 +1,25 @@
-from tests.helper import TOP, Case, area, ask, back, begin, class_, days, last, looks, open_, opens, rainfall, reads, shut
+from tests.helper import (
+    TOP, Case, area, ask, back, begin, class_, days, last, looks, open_, opens, rainfall, read_all, shut,
+)
 
 ONE = [begin(), area()]
 OF_CLASS = ((), (10, 10, 10, 10, 10), (20, 20, 20, 20, 20), (21, 20, 20, 20, 20))
 
 
 def class_with(readings, **told):
-    return last([begin(**told), area()] + reads(0, readings) + [class_(0)])
+    return last([begin(**told), area()] + read_all(0, readings) + [class_(0)])
 
 
 class Class(Case):
     def test_each_class_and_whether_open(self):
         for c, expected in enumerate(([0, 0], [1, 1], [2, 1], [3, 0])):
             with self.subTest(c=c):
-                self.answers_last(ONE + reads(0, OF_CLASS[c]) + [class_(0)], expected)
+                self.answers_last(ONE + read_all(0, OF_CLASS[c]) + [class_(0)], expected)
 
     def test_each_class_while_shut(self):
         for c in range(4):
             with self.subTest(c=c):
-                self.answers_last(ONE + reads(0, OF_CLASS[c]) + [rainfall(26), class_(0)], [c, 0])
+                self.answers_last(ONE + read_all(0, OF_CLASS[c]) + [rainfall(26), class_(0)], [c, 0])
 
     def test_fewer_than_five(self):
         for count in range(5):
@@ -94,8 +96,8 @@ class OpenAndShut(Case):
     def all_classes(self):
         calls = [begin()] + [area()] * 6
         for i, c in enumerate((2, 0, 1, 3, 1)):
-            calls += reads(i, OF_CLASS[c])
-        return calls + reads(5, (1, 1, 1, 1))
+            calls += read_all(i, OF_CLASS[c])
+        return calls + read_all(5, (1, 1, 1, 1))
 
     def test_no_areas(self):
         self.answers_end([begin(), open_(), shut()], [[0], [0]])
@@ -109,40 +111,40 @@ class OpenAndShut(Case):
     def test_all_six_open(self):
         calls = [begin()] + [area()] * 6
         for i in range(6):
-            calls += reads(i, (1, 1, 1, 1, 1))
+            calls += read_all(i, (1, 1, 1, 1, 1))
         self.answers_end(calls + [open_(), days(1)], [[6, 0, 1, 2, 3, 4, 5], [1, 6]])
 
     def test_some_shut_some_open(self):
-        calls = ONE + [area()] + reads(0, (1,) * 5) + reads(1, (1,) * 5) + [rainfall(26), area(), area()]
-        calls += reads(3, (1,) * 5)
+        calls = ONE + [area()] + read_all(0, (1,) * 5) + read_all(1, (1,) * 5) + [rainfall(26), area(), area()]
+        calls += read_all(3, (1,) * 5)
         self.answers_end(calls + [open_(), shut()], [[1, 3], [2, 0, 1]])
         self.answers_end(calls + [days(4), open_(), shut()], [[4, 1], [1, 3], [2, 0, 1]])
         self.answers_end(calls + [days(5), open_(), shut()], [[5, 3], [3, 0, 1, 3], [0]])
 
     def test_the_fifth_reading_opens_and_taken_back_it_does_not(self):
-        calls = ONE + reads(0, (1, 1, 1, 1))
+        calls = ONE + read_all(0, (1, 1, 1, 1))
         self.answers_last(calls + [open_()], [0])
-        self.answers_last(calls + reads(0, (1,)) + [open_()], [1, 0])
-        self.answers_last(calls + reads(0, (1,)) + [back(0), open_()], [0])
+        self.answers_last(calls + read_all(0, (1,)) + [open_()], [1, 0])
+        self.answers_last(calls + read_all(0, (1,)) + [back(0), open_()], [0])
 
 
 class Opens(Case):
     def test_in_how_many_days(self):
         for c in (1, 2):
-            calls = ONE + reads(0, OF_CLASS[c])
+            calls = ONE + read_all(0, OF_CLASS[c])
             self.answers_last(calls + [opens(0)], [0])
             told = ask(calls + [rainfall(26)] + [opens(0), days(1)] * 7)[-14::2]
             self.assertEqual(told, [[5], [4], [3], [2], [1], [0], [0]])
 
     def test_never_for_its_class(self):
         for readings in (OF_CLASS[0], (1, 1, 1, 1), OF_CLASS[3]):
-            calls = ONE + reads(0, readings)
+            calls = ONE + read_all(0, readings)
             self.answers_last(calls + [opens(0)], [-33])
             self.answers_last(calls + [rainfall(26), opens(0)], [-33])
 
     def test_it_is_open_then_and_not_before(self):
         for rained in range(4):
-            calls = ONE + reads(0, OF_CLASS[2]) + [rainfall(26)] + [days(1), rainfall(30)] * rained + [days(2)]
+            calls = ONE + read_all(0, OF_CLASS[2]) + [rainfall(26)] + [days(1), rainfall(30)] * rained + [days(2)]
             wait = last(calls + [opens(0)])[0]
             self.assertEqual(wait, 3)
             self.answers_last(calls + [days(wait - 1), class_(0)], [2, 0])
@@ -155,5 +157,5 @@ class Opens(Case):
 
 class Looking(Case):
     def test_changes_nothing(self):
-        calls = ONE + [area()] + reads(0, (1, 2, 3, 4, 51, 60)) + reads(1, (1, 2, 3, 4)) + [days(2), rainfall(30)]
+        calls = ONE + [area()] + read_all(0, (1, 2, 3, 4, 51, 60)) + read_all(1, (1, 2, 3, 4)) + [days(2), rainfall(30)]
         self.changes_nothing(calls, looks(), ask(calls + looks())[len(calls):])

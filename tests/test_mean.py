@@ -1,12 +1,12 @@
 import itertools
 
-from tests.helper import TOP, Case, area, ask, back, begin, class_, evenly, last, mean, read, reads
+from tests.helper import TOP, Case, area, ask, back, begin, class_, evenly, last, mean, read, read_all
 
 ONE = [begin(), area()]
 
 
 def both(readings):
-    return ask(ONE + reads(0, readings) + [mean(0), evenly(0)])[-2:]
+    return ask(ONE + read_all(0, readings) + [mean(0), evenly(0)])[-2:]
 
 
 class Mean(Case):
@@ -62,10 +62,10 @@ class Mean(Case):
             readings = [step * k * k % 1000 + 1 for k in (1, 3, 7, 11, 13)]
             found, product = both(readings)[0]
             least = found if found ** 5 == product else found + 1
-            within = [begin(good=least, fair=least, peak=1000), area()] + reads(0, readings) + [class_(0)]
+            within = [begin(good=least, fair=least, peak=1000), area()] + read_all(0, readings) + [class_(0)]
             self.assertEqual(last(within), [1, 1])
             if least > 1:
-                beyond = [begin(good=least - 1, fair=least, peak=1000), area()] + reads(0, readings) + [class_(0)]
+                beyond = [begin(good=least - 1, fair=least, peak=1000), area()] + read_all(0, readings) + [class_(0)]
                 self.assertEqual(last(beyond), [2, 1])
 
 
@@ -97,7 +97,7 @@ class TooFew(Case):
             self.assertEqual(both([3] * count), [[-6], [-6]])
 
     def test_the_fifth_reading_and_taken_back(self):
-        calls = ONE + reads(0, (2, 2, 2, 2)) + [read(0, 2), mean(0), evenly(0), back(0), mean(0), evenly(0)]
+        calls = ONE + read_all(0, (2, 2, 2, 2)) + [read(0, 2), mean(0), evenly(0), back(0), mean(0), evenly(0)]
         self.answers_end(calls, [[1, 0], [2, 32], [2, 10], [2, 0], [-6], [-6]])
 
     def test_no_such_area_first(self):
@@ -105,5 +105,5 @@ class TooFew(Case):
             self.answers_end(ONE + [mean(i), evenly(i)], [[-2], [-2]])
 
     def test_changes_nothing(self):
-        calls = ONE + [area()] + reads(0, (1, 2, 3, 4))
+        calls = ONE + [area()] + read_all(0, (1, 2, 3, 4))
         self.changes_nothing(calls, [mean(0), evenly(0), mean(1)], [[-6]] * 3)

@@ -1,7 +1,7 @@
-from tests.helper import TOP, Case, area, back, begin, class_, days, open_, opens, rainfall, reads, shut
+from tests.helper import TOP, Case, area, back, begin, class_, days, open_, opens, rainfall, read_all, shut
 
 FIVE = (1, 1, 1, 1, 1)
-OPEN = [begin(), area()] + reads(0, FIVE)
+OPEN = [begin(), area()] + read_all(0, FIVE)
 
 
 class Rainfall(Case):
@@ -23,7 +23,7 @@ class Rainfall(Case):
         self.changes_nothing(OPEN + [area()], [rainfall(1001), rainfall(TOP)], [[-22], [-22]])
 
     def test_out_of_range_though_all_is_let(self):
-        calls = [begin(rain=1000), area()] + reads(0, FIVE)
+        calls = [begin(rain=1000), area()] + read_all(0, FIVE)
         self.answers_end(calls + [rainfall(1000), shut(), rainfall(1001)], [[0], [0], [-22]])
 
     def test_none_is_let(self):
@@ -54,11 +54,11 @@ class Rainfall(Case):
         self.answers_end(calls, [[5, 1], [5], [5], [1, 0]])
 
     def test_for_no_days(self):
-        calls = [begin(days=0), area()] + reads(0, FIVE) + [rainfall(26)]
+        calls = [begin(days=0), area()] + read_all(0, FIVE) + [rainfall(26)]
         self.answers_end(calls + [shut(), open_(), opens(0)], [[0], [0], [1, 0], [0]])
 
     def test_for_sixty_days(self):
-        calls = [begin(days=60), area()] + reads(0, FIVE) + [rainfall(26)]
+        calls = [begin(days=60), area()] + read_all(0, FIVE) + [rainfall(26)]
         self.answers_end(calls + [opens(0), days(59), shut(), days(1), shut()],
                          [[60], [60], [59, 0], [1, 0], [60, 1], [0]])
 
@@ -70,13 +70,13 @@ class Rainfall(Case):
         self.answers_end(calls, [[5], [1], [1, 0], [1, 0], [5], [2, 0, 1]])
 
     def test_beyond_the_last_day(self):
-        calls = [begin(days=60), area()] + reads(0, FIVE) + [days(100)] * 100 + [rainfall(26), opens(0), days(1)]
+        calls = [begin(days=60), area()] + read_all(0, FIVE) + [days(100)] * 100 + [rainfall(26), opens(0), days(1)]
         self.answers_end(calls, [[10000, 1], [60], [60], [-75]])
 
 
 class Days(Case):
     def test_which_day_and_how_many_are_open(self):
-        calls = OPEN + [area(), area()] + reads(2, FIVE)
+        calls = OPEN + [area(), area()] + read_all(2, FIVE)
         self.answers_end(calls + [days(1), days(2), days(100)], [[1, 2], [3, 2], [103, 2]])
 
     def test_edges(self):
@@ -102,12 +102,12 @@ class Days(Case):
                          [[-22], [-22], [-22], [-75], [-75]])
 
     def test_not_open_for_its_class(self):
-        calls = OPEN + [area(), area()] + reads(1, (1, 1, 1, 1)) + reads(2, (21, 21, 21, 21, 21))
+        calls = OPEN + [area(), area()] + read_all(1, (1, 1, 1, 1)) + read_all(2, (21, 21, 21, 21, 21))
         self.answers_last(calls + [days(1)], [1, 1])
 
     def test_begins_again_at_day_0(self):
         self.answers_last(OPEN + [days(100)] * 100 + [begin(), days(100)], [100, 0])
 
     def test_opens_one_behind_another(self):
-        calls = OPEN + [rainfall(26), area()] + reads(1, FIVE) + [days(4), back(1), days(1)]
+        calls = OPEN + [rainfall(26), area()] + read_all(1, FIVE) + [days(4), back(1), days(1)]
         self.answers_end(calls, [[4, 1], [1, 0], [5, 1]])
